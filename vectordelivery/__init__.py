@@ -1,0 +1,1 @@
+"""Causal delivery of events with known vectors."""
