@@ -33,6 +33,30 @@ def applied(replica):
     return [6, replica]
 
 
+def pending(replica):
+    return [7, replica]
+
+
+def vector(replica):
+    return [8, replica]
+
+
+def known(replica, other):
+    return [9, replica, other]
+
+
+def stable(replica):
+    return [10, replica]
+
+
+def compare(replica1, number1, replica2, number2):
+    return [11, replica1, number1, replica2, number2]
+
+
+def message(number):
+    return [12, number]
+
+
 def joined(calls):
     return [number for call in calls for number in call]
 
@@ -64,8 +88,12 @@ def last(*calls):
 
 
 def order(*calls):
-    """The events that the last call, an `applied`, tells, as pairs of replica and number."""
-    answer = last(*calls)
-    if len(answer) != 1 + 3 * answer[0]:
-        raise AssertionError("applied does not tell three numbers for each event")
-    return [(answer[k], answer[k + 1]) for k in range(1, len(answer), 3)]
+    """The events that the last call, an `applied` or `pending`, tells, as pairs of replica and number."""
+    return [event[:2] for event in groups(last(*calls), 3)]
+
+
+def groups(answer, size):
+    """What an answer tells behind its count: so many groups of this many numbers."""
+    if len(answer) != 1 + size * answer[0]:
+        raise AssertionError(f"the answer does not tell {size} numbers for each event that it counts")
+    return [tuple(answer[k:k + size]) for k in range(1, len(answer), size)]

@@ -15,7 +15,10 @@ class Model:
         self.messages = []
 
     def answer(self, call):
-        operations = [self.begin, self.create, self.send, self.send_one, self.deliver, self.tell_applied]
+        operations = [
+            self.begin, self.create, self.send, self.send_one, self.deliver, self.tell_applied, self.tell_pending,
+            self.tell_vector, self.tell_known, self.tell_stable, self.compare, self.tell_message,
+        ]
         return operations[call[0] - 1](*call[1:])
 
     def begin(self, count):
@@ -75,7 +78,53 @@ class Model:
     def tell_applied(self, replica):
         if replica >= self.count:
             return [-2]
-        answer = [len(self.applied[replica])]
-        for event in self.applied[replica]:
+        return self.with_values(self.applied[replica])
+
+    def tell_pending(self, replica):
+        if replica >= self.count:
+            return [-2]
+        return self.with_values(sorted(self.pending[replica]))
+
+    def with_values(self, events):
+        answer = [len(events)]
+        for event in events:
             answer += [event[0], event[1], self.values[event]]
         return answer
+
+    def tell_vector(self, replica):
+        if replica >= self.count:
+            return [-2]
+        return self.counted(self.applied[replica])
+
+    def tell_known(self, replica, other):
+        if replica >= self.count or other >= self.count:
+            return [-2]
+        return self.counted(self.known_to(replica, other))
+
+    def tell_stable(self, replica):
+        if replica >= self.count:
+            return [-2]
+        common = set(self.values)
+        for other in range(self.count):
+            common &= self.known_to(replica, other)
+        return self.counted(common)
+
+    def known_to(self, replica, other):
+        return set(self.applied[replica]) if replica == other else self.known[replica, other]
+
+    def counted(self, events):
+        return [0] + [len([event for event in events if event[0] == replica]) for replica in range(self.count)]
+
+    def compare(self, replica1, number1, replica2, number2):
+        first, second = (replica1, number1), (replica2, number2)
+        if first not in self.values or second not in self.values:
+            return [-2]
+        if first in self.before[second]:
+            return [1]
+        return [2] if second in self.before[first] else [0]
+
+    def tell_message(self, number):
+        if number >= len(self.messages):
+            return [-2]
+        events = self.messages[number][2]
+        return [len(events)] + [part for event in events for part in event]

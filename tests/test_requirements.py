@@ -1,61 +1,20 @@
-"""The requirements, over many lists of calls that are drawn with fixed seeds."""
+"""The requirements on drawn lists: the answers beside those of the model, and what the session holds."""
 
-import random
 import unittest
 
-from calls import TOP, applied, begin, create, deliver, joined, run, send, send_one
+from calls import compare, joined, run
+from drawn import drawn_calls
 from model import Model
 from vectordelivery.session import Session
 
 SEEDS = range(60)
 
 
-def one_call(draw, model, share_of_send):
-    """A call that mostly makes sense where the model stands, and at times does not."""
-    replica, other = draw.randrange(model.count), draw.randrange(model.count)
-    chance = draw.randrange(100)
-    if chance < 20:
-        return create(replica, draw.choice([0, 5, 77, 1000000000]))
-    if chance < 20 + share_of_send:
-        return send(replica, other)
-    if chance < 60 and any(model.applied):
-        sender = draw.choice([k for k in range(model.count) if model.applied[k]])
-        return send_one(sender, other, *draw.choice(model.applied[sender]))
-    if chance < 92 and model.messages:
-        return deliver(draw.randrange(len(model.messages)))
-    if chance < 97:
-        return applied(replica)
-    return wild_call(draw, model, replica, other)
-
-
-def wild_call(draw, model, replica, other):
-    wild = draw.choice([0, model.count, 7, len(model.messages), 200, 1000000001, TOP])
-    calls = [
-        create(replica, wild), create(wild, 1), send(replica, wild), send(wild, replica),
-        send_one(replica, other, wild, 1), send_one(replica, other, other, wild), deliver(wild), applied(wild),
-        begin(draw.choice([0, 7, TOP])),
-    ]
-    return draw.choice(calls)
-
-
-def drawn_calls(seed):
-    draw = random.Random(seed)
-    model = Model()
-    share_of_send = draw.choice([2, 10, 30])
-    start_again = draw.choice([100, 150, 1000])
-    calls = []
-    while len(calls) < 280:
-        if len(calls) % start_again == 0:
-            calls.append(begin(draw.randrange(2, 7)))
-        else:
-            calls.append(one_call(draw, model, share_of_send))
-        model.answer(calls[-1])
-    return calls
-
-
 def perform(session, call):
     operations = [
         session.begin, session.create, session.send, session.send_one, session.deliver, session.list_applied,
+        session.list_pending, session.list_vector, session.list_known, session.list_stable, session.compare,
+        session.list_message,
     ]
     return operations[call[0] - 1](*call[1:])
 
@@ -79,17 +38,35 @@ def state(session):
     return (replicas, messages, [event(one) for one in session.events])
 
 
+def all_questions(model):
+    places = range(model.count + 1)
+    calls = [[operation, place] for operation in (6, 7, 8, 10) for place in places]
+    calls += [[9, place, other] for place in places for other in places]
+    return calls + [[12, number] for number in range(len(model.messages) + 1)]
+
+
 class AgainstTheModel(unittest.TestCase):
     def test_all_answers_are_those_of_the_model(self):
         for seed in SEEDS:
             with self.subTest(seed=seed):
                 model = Model()
-                calls = drawn_calls(seed) + [applied(replica) for replica in range(6)]
+                calls = drawn_calls(seed)
+                self.assertEqual(len(calls), 300)
                 self.assertEqual(run(*calls), [model.answer(call) for call in calls])
+
+    def test_what_is_told_at_the_end_is_what_the_model_tells(self):
+        for seed in SEEDS:
+            with self.subTest(seed=seed):
+                model = Model()
+                calls = drawn_calls(seed, 200)
+                expected = [model.answer(call) for call in calls]
+                asked = all_questions(model)[:100]
+                self.assertEqual(run(*calls, *asked), expected + [model.answer(call) for call in asked])
 
     def test_the_drawn_lists_meet_what_matters(self):
         deliveries = []
         refusals = set()
+        told = {operation: set() for operation in range(6, 13)}
         for seed in SEEDS:
             calls = drawn_calls(seed)
             self.assertLessEqual(len(joined(calls)), 1500)
@@ -98,9 +75,33 @@ class AgainstTheModel(unittest.TestCase):
                     refusals.add((call[0], answer[0]))
                 elif call[0] == 5:
                     deliveries.append(tuple(answer))
-        self.assertTrue({(1, -1), (2, -1), (2, -2), (3, -2), (4, -2), (4, -3), (5, -2), (6, -2)} <= refusals)
+                elif call[0] >= 6:
+                    told[call[0]].add(tuple(answer))
+        not_there = {(operation, -2) for operation in range(2, 13)}
+        self.assertEqual(refusals, not_there | {(1, -1), (2, -1), (2, -5), (4, -3)})
+        self.assertEqual(told[11], {(0,), (1,), (2,)})
+        for operation in (6, 7, 8, 9, 10, 12):
+            self.assertGreater(len(told[operation]), 30)
+        # There are vectors of every length, and something stable among several replicas.
+        for operation in (8, 9, 10):
+            self.assertEqual({len(answer) for answer in told[operation]}, {2, 3, 4, 5, 6, 7})
+        self.assertTrue(any(sum(answer) > 0 for answer in told[10] if len(answer) > 3))
+        self.assertTrue(any(len(answer) > 10 for answer in told[7]))
         self.assertTrue(any(freed > 5 for freed, _ in deliveries))
         self.assertTrue(any(waiting > 5 for _, waiting in deliveries))
+
+    def test_compare_is_what_the_model_tells_for_all_pairs(self):
+        for seed in range(12):
+            with self.subTest(seed=seed):
+                model = Model()
+                calls = drawn_calls(seed, 200)
+                for call in calls:
+                    model.answer(call)
+                pairs = [(first, second) for first in sorted(model.values) for second in sorted(model.values)]
+                asked = [compare(*first, *second) for first, second in pairs]
+                for start in range(0, len(asked), 100):
+                    some = asked[start:start + 100]
+                    self.assertEqual(run(*calls, *some)[200:], [model.answer(call) for call in some])
 
 
 class Requirements(unittest.TestCase):
@@ -144,21 +145,25 @@ class Requirements(unittest.TestCase):
         self.after_each_call(look)
 
     def test_3_a_complete_message_brings_all(self):
+        for seed in SEEDS:
+            with self.subTest(seed=seed):
+                self.assert_complete_messages_bring_all(drawn_calls(seed))
+
+    def assert_complete_messages_bring_all(self, calls):
+        session = Session()
         at_creation = {}
         delivered = []
-
-        def look(session, call, answer):
+        for call in calls:
+            answer = perform(session, call)
             if call[0] == 1 and answer == [0]:
-                at_creation.clear()
-                delivered.clear()
+                at_creation = {}
+                delivered = []
             if call[0] == 3 and len(answer) == 2:
                 at_creation[answer[0]] = (call[2], list(session.replicas[call[1]].vector))
             if call[0] == 5 and call[1] in at_creation:
                 delivered.append(at_creation[call[1]])
             for receiver, vector in delivered:
                 self.assert_within(vector, session.replicas[receiver].vector)
-
-        self.after_each_call(look)
 
     def test_4_a_complete_message_holds_what_is_applied_and_not_known(self):
         def look(session, call, answer):
@@ -192,6 +197,16 @@ class Requirements(unittest.TestCase):
                 self.assertEqual(state(session), before)
 
         self.after_each_call(look)
+
+    def test_what_is_only_asked_changes_nothing(self):
+        for seed in SEEDS:
+            with self.subTest(seed=seed):
+                session = Session()
+                for call in drawn_calls(seed):
+                    before = state(session)
+                    perform(session, call)
+                    if call[0] >= 6:
+                        self.assertEqual(state(session), before)
 
     def test_7_the_same_vector_means_the_same_events(self):
         def look(session, call, answer):

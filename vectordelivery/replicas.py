@@ -8,8 +8,13 @@ SEND = 3
 SEND_ONE = 4
 DELIVER = 5
 APPLIED = 6
+PENDING = 7
+VECTOR = 8
+KNOWN = 9
+STABLE = 10
+COMPARE = 11
 
-ARGUMENT_COUNTS = {1: 1, 2: 2, 3: 2, 4: 4, 5: 1, 6: 1}
+ARGUMENT_COUNTS = {1: 1, 2: 2, 3: 2, 4: 4, 5: 1, 6: 1, 7: 1, 8: 1, 9: 2, 10: 1, 11: 4, 12: 1}
 
 
 def answers(calls):
@@ -28,6 +33,13 @@ def answers(calls):
 
 def perform(session, call):
     """Carry out one call: its number, then its arguments."""
+    if call[0] <= DELIVER:
+        return change(session, call)
+    return ask(session, call)
+
+
+def change(session, call):
+    """Carry out a call that can change the session."""
     operation = call[0]
     if operation == BEGIN:
         return session.begin(call[1])
@@ -37,6 +49,22 @@ def perform(session, call):
         return session.send(call[1], call[2])
     if operation == SEND_ONE:
         return session.send_one(call[1], call[2], call[3], call[4])
-    if operation == DELIVER:
-        return session.deliver(call[1])
-    return session.list_applied(call[1])
+    return session.deliver(call[1])
+
+
+def ask(session, call):
+    """Carry out a call that only reads the session."""
+    operation = call[0]
+    if operation == APPLIED:
+        return session.list_applied(call[1])
+    if operation == PENDING:
+        return session.list_pending(call[1])
+    if operation == VECTOR:
+        return session.list_vector(call[1])
+    if operation == KNOWN:
+        return session.list_known(call[1], call[2])
+    if operation == STABLE:
+        return session.list_stable(call[1])
+    if operation == COMPARE:
+        return session.compare(call[1], call[2], call[3], call[4])
+    return session.list_message(call[1])

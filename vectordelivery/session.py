@@ -10,6 +10,10 @@ NOT_THERE = -2
 NOT_APPLIED = -3
 TOO_MANY = -5
 
+UNRELATED = 0
+FIRST_IS_EARLIER = 1
+SECOND_IS_EARLIER = 2
+
 
 class Event:
     """An event; its dependencies are the vector that its replica had directly before it."""
@@ -20,10 +24,29 @@ class Event:
         self.value = value
         self.dependencies = dependencies
 
+    def depends_on(self, other):
+        return other.number <= self.dependencies[other.origin]
+
 
 def pending_place(event):
     """Where an event stands among pending ones: by its replica, then by its number."""
     return (event.origin, event.number)
+
+
+def find_event(events, origin, number):
+    """The event among these with this number of the replica `origin`, or None."""
+    for event in events:
+        if event.origin == origin and event.number == number:
+            return event
+    return None
+
+
+def list_events(events):
+    """How many events these are, then the replica, number and value of each."""
+    answer = [len(events)]
+    for event in events:
+        answer.extend([event.origin, event.number, event.value])
+    return answer
 
 
 class Message:
@@ -65,13 +88,6 @@ class Replica:
         self.apply(event)
         return event
 
-    def applied_event(self, origin, number):
-        """The applied event with this number of the replica `origin`, or None."""
-        for event in self.applied:
-            if event.origin == origin and event.number == number:
-                return event
-        return None
-
     def events_for(self, other):
         """What a complete message to `other` contains."""
         vector = self.known[other]
@@ -105,6 +121,13 @@ class Replica:
     def learn(self, other, vector):
         """Raise the known vector for `other` to what a message of `other` tells."""
         self.known[other] = [max(old, told) for old, told in zip(self.known[other], vector)]
+
+    def stable_vector(self):
+        """For each replica, how many of its events all replicas are known to have applied."""
+        return [self.least_known(origin) for origin in range(len(self.vector))]
+
+    def least_known(self, origin):
+        return min([vector[origin] for vector in self.known])
 
 
 class Session:
@@ -145,7 +168,7 @@ class Session:
     def send_one(self, sender, receiver, origin, number):
         if not self.can_connect(sender, receiver):
             return [NOT_THERE]
-        event = self.replicas[sender].applied_event(origin, number)
+        event = find_event(self.replicas[sender].applied, origin, number)
         if event is None:
             return [NOT_APPLIED]
         if not self.has_room_for_message():
@@ -153,7 +176,7 @@ class Session:
         return [self.add_message(sender, receiver, [event])]
 
     def deliver(self, number):
-        if number >= len(self.messages):
+        if not self.has_message(number):
             return [NOT_THERE]
         message = self.messages[number]
         receiver = self.replicas[message.receiver]
@@ -164,14 +187,53 @@ class Session:
     def list_applied(self, replica):
         if not self.has_replica(replica):
             return [NOT_THERE]
-        events = self.replicas[replica].applied
+        return list_events(self.replicas[replica].applied)
+
+    def list_pending(self, replica):
+        if not self.has_replica(replica):
+            return [NOT_THERE]
+        return list_events(self.replicas[replica].pending)
+
+    def list_vector(self, replica):
+        if not self.has_replica(replica):
+            return [NOT_THERE]
+        return [0] + self.replicas[replica].vector
+
+    def list_known(self, replica, other):
+        if not self.has_replica(replica) or not self.has_replica(other):
+            return [NOT_THERE]
+        return [0] + self.replicas[replica].known[other]
+
+    def list_stable(self, replica):
+        if not self.has_replica(replica):
+            return [NOT_THERE]
+        return [0] + self.replicas[replica].stable_vector()
+
+    def compare(self, first_origin, first_number, second_origin, second_number):
+        first = find_event(self.events, first_origin, first_number)
+        second = find_event(self.events, second_origin, second_number)
+        if first is None or second is None:
+            return [NOT_THERE]
+        if second.depends_on(first):
+            return [FIRST_IS_EARLIER]
+        if first.depends_on(second):
+            return [SECOND_IS_EARLIER]
+        return [UNRELATED]
+
+    def list_message(self, number):
+        if not self.has_message(number):
+            return [NOT_THERE]
+        events = self.messages[number].events
         answer = [len(events)]
         for event in events:
-            answer.extend([event.origin, event.number, event.value])
+            answer.extend([event.origin, event.number])
         return answer
 
     def has_replica(self, replica):
         return replica < len(self.replicas)
+
+    def has_message(self, number):
+        return number < len(self.messages)
 
     def can_connect(self, sender, receiver):
         return self.has_replica(sender) and self.has_replica(receiver) and sender != receiver
